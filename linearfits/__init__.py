@@ -1,0 +1,1 @@
+"""Least squares in linear models, exactly, with fractions."""
