@@ -17,6 +17,17 @@ def lowest_terms(numerator, denominator):
     return [numerator // divisor, denominator // divisor]
 
 
+def difference(first, second):
+    """The second fraction taken from the first."""
+    numerator = first[0] * second[1] - second[0] * first[1]
+    return lowest_terms(numerator, first[1] * second[1])
+
+
+def quotient(first, second):
+    """The first fraction divided by the second, which isn't 0."""
+    return lowest_terms(first[0] * second[1], first[1] * second[0])
+
+
 def dot(first, second):
     return sum([left * right for left, right in zip(first, second)])
 
@@ -98,3 +109,16 @@ def solved(matrix, target):
     for place, column in enumerate(sweep.pivots):
         numerators[column] = sweep.table[place][width]
     return Solution(numerators, sweep.divisor)
+
+
+def determinant(matrix):
+    """By the first row's entries, so for matrices of a few rows only."""
+    if len(matrix) == 0:
+        return 1
+    whole = 0
+    sign = 1
+    for place, entry in enumerate(matrix[0]):
+        rest = [row[:place] + row[place + 1:] for row in matrix[1:]]
+        whole += sign * entry * determinant(rest)
+        sign = -sign
+    return whole

@@ -37,8 +37,8 @@ class Reference:
         self.basis = orthogonal(columns_of(width, rows))
         self.residuals = minus_projection(responses, self.basis)
         self.fitted = [y - r for y, r in zip(responses, self.residuals)]
-        self.kept = self.with_shares()
-        self.rank = len(self.kept)
+        self.kept = None
+        self.rank = len(self.basis)
         self.freedom = len(rows) - self.rank
         self.residual_sum = inner(self.residuals, self.residuals)
 
@@ -58,6 +58,8 @@ class Reference:
 
     def shares(self, vector):
         """How much of each row makes the vector, or None if nothing does."""
+        if self.kept is None:
+            self.kept = self.with_shares()
         rest = [Fraction(number) for number in vector]
         shares = [Fraction(0) for row in self.rows]
         for other, parts in self.kept:

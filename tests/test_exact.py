@@ -2,17 +2,45 @@
 
 import unittest
 
-from linearfits.exact import lowest_terms, rank_of, solved
+from linearfits.exact import determinant, difference, lowest_terms, quotient, rank_of, solved
 
 
 class LowestTerms(unittest.TestCase):
     def test_reduced_with_a_positive_denominator(self):
         cases = [((6, 4), [3, 2]), ((-6, 4), [-3, 2]), ((6, -4), [-3, 2]),
                  ((-6, -4), [3, 2]), ((5, 1), [5, 1]), ((7, 7), [1, 1]),
-                 ((0, 5), [0, 1]), ((0, -5), [0, 1]),
+                 ((5, -1), [-5, 1]), ((0, -1), [0, 1]), ((0, 5), [0, 1]), ((0, -5), [0, 1]),
                  ((2 ** 200, -(2 ** 70) * 3), [-(2 ** 130), 3])]
         for pair, expected in cases:
             self.assertEqual(lowest_terms(*pair), expected)
+
+
+class Arithmetic(unittest.TestCase):
+    def test_difference(self):
+        cases = [([1, 2], [1, 3], [1, 6]), ([1, 3], [1, 2], [-1, 6]), ([5, 6], [5, 6], [0, 1]),
+                 ([0, 1], [-7, 4], [7, 4]), ([5, 6], [1, 3], [1, 2])]
+        for first, second, expected in cases:
+            self.assertEqual(difference(first, second), expected)
+
+    def test_quotient(self):
+        cases = [([1, 2], [1, 3], [3, 2]), ([1, 2], [-1, 3], [-3, 2]), ([-1, 2], [-3, 4], [2, 3]),
+                 ([0, 1], [-7, 4], [0, 1])]
+        for first, second, expected in cases:
+            self.assertEqual(quotient(first, second), expected)
+
+
+class Determinant(unittest.TestCase):
+    def test_determinants(self):
+        cases = [([], 1), ([[-7]], -7), ([[1, 2], [3, 4]], -2), ([[0, 1], [1, 0]], -1),
+                 ([[2, 3, 5], [7, 11, 13], [17, 19, 23]], -78), ([[1, 2], [2, 4]], 0),
+                 ([[0, 0, 1], [1, 0, 0], [0, 1, 0]], 1)]
+        for matrix, expected in cases:
+            self.assertEqual(determinant(matrix), expected)
+
+    def test_what_is_handed_in_stays(self):
+        matrix = [[2, 3, 5], [7, 11, 13], [17, 19, 23]]
+        determinant(matrix)
+        self.assertEqual(matrix, [[2, 3, 5], [7, 11, 13], [17, 19, 23]])
 
 
 class Solved(unittest.TestCase):

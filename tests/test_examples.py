@@ -1,8 +1,8 @@
-"""The document's own session, as far as its calls have been built."""
+"""The document's own session."""
 
 import unittest
 
-from support import run
+from support import last, run
 
 SESSION = [
     (("create", 2), [0]),
@@ -15,38 +15,39 @@ SESSION = [
     (("estimate", [0, 1]), [0, 3, 2, 1, 2]),
     (("squared_ratio", [0, 1]), [0, 6, 1]),
     (("fitted", 1), [0, 3, 1, 0, 1]),
-    (("leverage", 0), None),
-    (("deleted", 0), None),
-    (("residual_sum",), None),
-    (("variance_estimate",), None),
-    (("sequential",), None),
-    (("marginal",), None),
-    (("f_ratio", 1), None),
-    (("lack_of_fit",), None),
-    (("predict", [1, 2]), None),
-    (("lost_value", 0), None),
-    (("normal_equations",), None),
+    (("leverage", 0), [0, 3, 4]),
+    (("deleted", 0), [0, -2, 1]),
+    (("residual_sum",), [2, 3, 2]),
+    (("variance_estimate",), [0, 3, 4]),
+    (("sequential",), [2, 1, 36, 1, 1, 9, 2]),
+    (("marginal",), [2, 1, 3, 1, 1, 9, 2]),
+    (("f_ratio", 1), [0, 6, 1]),
+    (("lack_of_fit",), [1, 1, 1, 1, 1, 2]),
+    (("predict", [1, 2]), [0, 9, 2, 7, 4]),
+    (("lost_value", 0), [0, 3, 1]),
+    (("normal_equations",), [2, 4, 4, 12, 4, 6, 15]),
     (("set_terms", [0, 0]), [1]),
-    (("sequential",), None),
+    (("sequential",), [1, 2, 81, 2]),
     (("set_terms", [1, 1]), [-22]),
-    (("stationary", 2, 5, [-2, -4], [1, 0, 1]), None),
-    (("stationary", 2, 0, [0, 0], [0, 1, 0]), None),
-    (("stationary", 1, 0, [1], [0]), None),
+    (("stationary", 2, 5, [-2, -4], [1, 0, 1]), [0, 1, 1, 2, 1, 0, 1]),
+    (("stationary", 2, 0, [0, 0], [0, 1, 0]), [2, 0, 1, 0, 1, 0, 1]),
+    (("stationary", 1, 0, [1], [0]), [-33]),
 ]
 
 
 class Examples(unittest.TestCase):
-    def check(self, session):
-        found = run(*[call for call, expected in session])
-        for (call, expected), answer in zip(session, found):
-            if expected is not None:
-                self.assertEqual(answer, expected, call)
+    def test_the_session(self):
+        found = run(*[call for call, expected in SESSION])
+        for (call, expected), answer in zip(SESSION, found):
+            self.assertEqual(answer, expected, call)
 
-    def test_the_session_without_the_calls_to_come(self):
-        self.check([step for step in SESSION if step[1] is not None])
-
-    def test_the_whole_session(self):
-        self.check(SESSION)
+    def test_each_call_right_behind_those_that_change_the_state(self):
+        changes = []
+        for call, expected in SESSION:
+            with self.subTest(call=call):
+                self.assertEqual(last(*changes, call), expected)
+            if call[0] in ("create", "add_row", "set_terms"):
+                changes.append(call)
 
 
 if __name__ == "__main__":

@@ -1,41 +1,8 @@
-"""The calls that ask about the fit: rank to fitted."""
+"""The calls that ask about the fit: rank to fitted, predict and normal_equations."""
 
 import unittest
 
-from support import built, last, run
-
-LARGE = 4294967295
-
-LINE = built(2, [[1, 0], [1, 1], [1, 2], [1, 1]], [1, 3, 4, 4])
-# Two groups with a common mean: the first column is the sum of the others.
-GROUPS = built(3, [[1, 1, 0], [1, 1, 0], [1, 0, 1], [1, 0, 1], [1, 0, 1]],
-               [1, 2, 4, 6, 9])
-EMPTY = [("create", 3)]
-
-
-class FitCase(unittest.TestCase):
-    def answers_to(self, model, *calls):
-        """The answers, after it is seen that the calls leave the model alone."""
-        found = run(*model, *calls, *calls)[len(model):]
-        self.assertEqual(found[:len(calls)], found[len(calls):])
-        return found[:len(calls)]
-
-    def check(self, model, *pairs):
-        found = self.answers_to(model, *[call for call, expected in pairs])
-        for (call, expected), answer in zip(pairs, found):
-            self.assertEqual(answer, expected, call)
-
-    def check_vector_ranges(self, call_with):
-        """Vectors of wrong length or with wrong numbers are refused."""
-        for length in (0, 1, 3, 60):
-            self.assertEqual(last(*LINE, call_with([0] * length)), [-22])
-        for number in (1001, -1001, 2147483647, -2147483648):
-            self.assertEqual(last(*LINE, call_with([number, 0])), [-22])
-            self.assertEqual(last(*LINE, call_with([0, number])), [-22])
-        for length in (0, 2, 4, 60):
-            self.assertEqual(last(*EMPTY, call_with([0] * length)), [-22])
-        # The range is checked before whether the vector is estimable.
-        self.assertEqual(last(*EMPTY, call_with([1001, 0, 0])), [-22])
+from support import EMPTY, GROUPS, LARGE, LINE, FitCase, built, last, run
 
 
 class Rank(FitCase):
@@ -265,6 +232,76 @@ class Fitted(FitCase):
         self.check(model, (("fitted", 23), [0, 1, 1, 23, 1]), (("fitted", 24), [-2]))
 
 
+class Predict(FitCase):
+    def test_ordinary(self):
+        self.check(LINE,
+                   (("predict", [1, 2]), [0, 9, 2, 7, 4]),
+                   (("predict", [0, 1]), [0, 3, 2, 3, 2]),
+                   (("predict", [1, 0]), [0, 3, 2, 7, 4]),
+                   (("predict", [-1, 1]), [0, 0, 1, 13, 4]))
+
+    def test_a_vector_of_zeros(self):
+        for model in (LINE + [("remove_row", 0)], built(2, [[0, 0]], [9])):
+            self.check(model, (("predict", [0, 0]), [0, 0, 1, 1, 1]))
+
+    def test_vectors_at_the_ends_of_the_range(self):
+        self.check(LINE,
+                   (("predict", [1000, 1000]), [0, 3000, 1, 250001, 1]),
+                   (("predict", [-1000, -1000]), [0, -3000, 1, 250001, 1]))
+
+    def test_fewer_independent_columns_than_columns(self):
+        self.check(GROUPS,
+                   (("predict", [1, 1, 0]), [0, 3, 2, 3, 2]),
+                   (("predict", [1, 0, 1]), [0, 19, 3, 4, 3]),
+                   (("predict", [0, 1, -1]), [0, -29, 6, 11, 6]))
+
+    def test_vectors_that_are_not_estimable(self):
+        for vector in ([1, 0, 0], [0, 1, 0], [1, 1, 1], [1000, -1000, 0]):
+            self.check_stands(GROUPS, ("predict", vector), -33)
+
+    def test_no_rows(self):
+        self.check(EMPTY,
+                   (("predict", [0, 0, 0]), [0, 0, 1, 1, 1]),
+                   (("predict", [0, 0, 1]), [-33]))
+
+    def test_the_freedom_is_zero(self):
+        self.check(built(2, [[1, 0], [1, 1]], [1, 5]), (("predict", [1, 2]), [0, 9, 1, 6, 1]))
+
+    def test_errors_of_range(self):
+        self.check_vector_ranges(lambda vector: ("predict", vector))
+        self.check_stands(GROUPS, ("predict", [1, 0, 1001]), -22)
+
+
+class NormalEquations(FitCase):
+    def test_ordinary(self):
+        self.check(LINE, (("normal_equations",), [2, 4, 4, 12, 4, 6, 15]))
+
+    def test_each_number_stands_in_its_place(self):
+        model = built(3, [[1, 10, 100], [2, 3, 5]], [-7, 4])
+        self.check(model, (("normal_equations",), [
+            3, 5, 16, 110, 1, 16, 109, 1015, -58, 110, 1015, 10025, -680]))
+
+    def test_fewer_independent_columns_than_columns(self):
+        self.check(GROUPS, (("normal_equations",), [3, 5, 2, 3, 22, 2, 2, 0, 3, 3, 0, 3, 19]))
+
+    def test_no_rows(self):
+        self.check([("create", 1)], (("normal_equations",), [1, 0, 0]))
+        self.check(EMPTY, (("normal_equations",), [3] + [0] * 12))
+        self.check([("create", 8)], (("normal_equations",), [8] + [0] * 72))
+
+    def test_the_ends_of_the_ranges(self):
+        most = [24000000] * 8 + [24000000000]
+        self.check(built(8, [[1000] * 8] * 24, [1000000] * 24),
+                   (("normal_equations",), [8] + most * 8))
+        self.check(built(2, [[1000, -1000]], [-1000000]),
+                   (("normal_equations",), [2, 1000000, -1000000, -1000000000,
+                                            -1000000, 1000000, 1000000000]))
+
+    def test_the_terms_do_not_matter(self):
+        self.check(LINE + [("set_terms", [0, 0])],
+                   (("normal_equations",), [2, 4, 4, 12, 4, 6, 15]))
+
+
 class LargeNumbers(FitCase):
     ROWS = [[1000, -1000, 999], [-1000, 997, 1000], [991, 1000, -1000], [983, 977, 971]]
 
@@ -278,6 +315,34 @@ class LargeNumbers(FitCase):
                    (("squared_ratio", [1000, 999, -1000]), [
                        0, 9428497910318636254732176831280244639476897076161,
                        29017899618789274625357196717481202539736335881091]))
+
+    def test_sums_and_leverages_beyond_64_bits(self):
+        model = built(3, self.ROWS, [1000000, -1000000, 999999, -999983])
+        rest = [15664615683854109924678904215025, 15353425000004730817]
+        last_sum = [238030327307531679061498714031269413201982225,
+                    239332394728668858038200898050243]
+        self.check(model,
+                   (("leverage", 0), [0, 46186392986932264179, 61413700000018923268]),
+                   (("deleted", 1), [0, 7915709869330510, 3878482793]),
+                   (("lost_value", 2), [0, -3997706838337459, 3918006949]),
+                   (("residual_sum",), [1] + rest),
+                   (("variance_estimate",), [0] + rest),
+                   (("sequential",), [
+                       3, 1, 403212713176711840, 394837,
+                       1, 5932753821790887202704571025610, 6154801598825949823,
+                       1] + last_sum),
+                   (("marginal",), [
+                       3, 1, 233853747998970939752284575313167348404656761,
+                       238864286885647917201163129857419,
+                       1, 236635527515060970304305333365976639899214025,
+                       238876194578077736070254148815147, 1] + last_sum),
+                   (("f_ratio", 2), [
+                       0, 9521213092301267162459948561250776528079289,
+                       9767332003432234072766605495395405180181579]),
+                   (("lack_of_fit",), [1] + rest + [0, 0, 1]),
+                   (("predict", [1000, 999, -1000]), [
+                       0, 15352929614831363069245595, 30706850000009461634,
+                       107724921744033221759, 61413700000018923268]))
 
     def test_the_ends_of_both_ranges(self):
         model = built(1, [[1000], [-1000]], [1000000, -1000000])

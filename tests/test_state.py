@@ -1,13 +1,9 @@
-"""The calls that change the state: create to clear, and get_row."""
+"""The calls that change the state or show it: create to get_row, and summary."""
 
 import unittest
 
-from linearfits.models import OPERATIONS, Model
-from support import built, last, run
-
-LARGE = 4294967295
-LEAST = -2147483648
-MOST = 2147483647
+from linearfits.state import STATE_OPERATIONS, Model
+from support import LARGE, LEAST, MOST, FitCase, built, last, run
 
 PAIR = built(2, [[1, 0], [1, 5]], [7, -8])
 PAIR_STANDS = [[7, 1, 0], [-8, 1, 5], [-2], [2, 0]]
@@ -20,13 +16,14 @@ def full(width=1):
     return built(width, rows, range(100, 124))
 
 
-class StateCase(unittest.TestCase):
+class StateCase(FitCase):
     def refused(self, call, code):
         """The call on the pair is refused, and the pair stands behind it."""
         with self.subTest(call=call):
             found = run(*PAIR, call, *LOOK)
             self.assertEqual(found[len(PAIR)], [code])
             self.assertEqual(found[len(PAIR) + 1:], PAIR_STANDS)
+            self.check_stands(PAIR + [("set_terms", [0, 0])], call, code)
 
 
 class Create(StateCase):
@@ -170,6 +167,22 @@ class SetTerms(StateCase):
     def test_rows_stay(self):
         self.assertEqual(run(*PAIR, ("set_terms", [0, 0]), *LOOK)[-4:], PAIR_STANDS)
 
+    def test_the_sums_of_squares_follow(self):
+        # Each column alone explains the square of one response.
+        rows = [[1, 0, 0], [0, 1, 0], [0, 0, 1]]
+        model = built(3, rows, [2, 3, 5])
+        apart = [3, 1, 4, 1, 1, 9, 1, 1, 25, 1]
+        found = run(*model, ("sequential",), ("set_terms", [0, 0, 1]), ("sequential",),
+                    ("set_terms", [0, 1, 1]), ("sequential",), ("set_terms", [0, 2, 2]),
+                    ("sequential",), ("create", 0), ("sequential",), ("clear",),
+                    ("summary",), *model, ("sequential",))
+        self.assertEqual(found[4:12], [apart, [2], [2, 2, 13, 1, 1, 25, 1], [2],
+                                       [2, 1, 4, 1, 2, 34, 1], [-22],
+                                       [2, 1, 4, 1, 2, 34, 1], [-22]])
+        self.assertEqual(found[12:15], [[2, 1, 4, 1, 2, 34, 1], [3], [3, 0, 2]])
+        # A new start makes each column a term of its own again.
+        self.assertEqual(found[-1], apart)
+
     def test_terms_that_start_wrong(self):
         for terms in ([1, 1], [1, 2], [1, 0], [2, 2], [LARGE, LARGE], [LARGE, 0]):
             self.refused(("set_terms", terms), -22)
@@ -190,18 +203,18 @@ class SetTerms(StateCase):
             self.refused(("set_terms", [0] * length), -22)
 
     def test_the_terms_that_are_kept(self):
-        # No call of this stage tells the terms, so the model is asked itself.
+        # No call tells the terms as they stand, so the model is asked itself.
         model = Model()
-        OPERATIONS[0](model, [3])
+        STATE_OPERATIONS[0](model, [3])
         self.assertEqual(model.terms, [0, 1, 2])
-        OPERATIONS[4](model, [[0, 0, 1]])
+        STATE_OPERATIONS[4](model, [[0, 0, 1]])
         self.assertEqual(model.terms, [0, 0, 1])
-        OPERATIONS[4](model, [[0, 2, 2]])
-        OPERATIONS[0](model, [9])
+        STATE_OPERATIONS[4](model, [[0, 2, 2]])
+        STATE_OPERATIONS[0](model, [9])
         self.assertEqual(model.terms, [0, 0, 1])
-        OPERATIONS[5](model, [])
+        STATE_OPERATIONS[5](model, [])
         self.assertEqual(model.terms, [0, 0, 1])
-        OPERATIONS[0](model, [3])
+        STATE_OPERATIONS[0](model, [3])
         self.assertEqual(model.terms, [0, 1, 2])
 
 
@@ -229,6 +242,30 @@ class GetRow(StateCase):
             self.refused(("get_row", index), -2)
         self.assertEqual(last(("create", 8), ("get_row", 0)), [-2])
         self.assertEqual(last(*full(), ("get_row", 24)), [-2])
+
+
+class Summary(FitCase):
+    def test_ordinary(self):
+        self.check(PAIR, (("summary",), [2, 2, 2]))
+        self.check(PAIR + [("set_terms", [0, 0])], (("summary",), [2, 2, 1]))
+
+    def test_the_numbers_are_told_in_their_order(self):
+        model = built(8, [[1] * 8] * 5, [0] * 5) + [("set_terms", [0, 0, 1, 1, 1, 2, 2, 2])]
+        self.check(model, (("summary",), [8, 5, 3]))
+
+    def test_no_rows(self):
+        for width in range(1, 9):
+            self.check([("create", width)], (("summary",), [width, 0, width]))
+
+    def test_as_many_rows_as_there_may_be(self):
+        self.check(full(3), (("summary",), [3, 24, 3]))
+
+    def test_the_state_is_followed(self):
+        found = run(*PAIR, ("add_row", 1, [2, 2]), ("summary",), ("remove_row", 0),
+                    ("remove_row", 0), ("summary",), ("set_terms", [0, 0]), ("clear",),
+                    ("summary",), ("create", 4), ("summary",), ("create", 9), ("summary",))
+        self.assertEqual(found[len(PAIR):], [[3], [2, 3, 2], [2], [1], [2, 1, 2], [1], [1],
+                                             [2, 0, 1], [0], [4, 0, 4], [-22], [4, 0, 4]])
 
 
 if __name__ == "__main__":
